@@ -1,0 +1,1 @@
+"""A small games machine."""
