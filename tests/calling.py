@@ -1,5 +1,7 @@
 """Calls written as lists of numbers, and their answers told apart."""
 
+import unittest
+
 from smallgames.games import answers
 
 LEAST = -2147483648
@@ -64,3 +66,28 @@ def patched(changes):
     for at, data in changes:
         memory[at:at + len(data)] = data
     return memory
+
+
+class AnswersTest(unittest.TestCase):
+    """Compares long lists without unittest's own diff, which takes minutes on a whole memory."""
+
+    def assert_same(self, got, expected):
+        if got != expected:
+            self.fail(first_difference(got, expected))
+
+
+def first_difference(got, expected, where=""):
+    if isinstance(got, dict) and isinstance(expected, dict) and got.keys() == expected.keys():
+        places = list(got)
+    elif isinstance(got, list) and isinstance(expected, list) and len(got) == len(expected):
+        places = range(len(got))
+    else:
+        return f"{where or 'the whole'}: {shortened(got)} in the place of {shortened(expected)}"
+    place = next(place for place in places if got[place] != expected[place])
+    return first_difference(got[place], expected[place], f"{where}[{place!r}]")
+
+
+def shortened(value):
+    if isinstance(value, list) and len(value) > 20:
+        return f"{len(value)} values, {value[:20]} and so on"
+    return repr(value)

@@ -5,7 +5,7 @@ import unittest
 from smallgames.actions import c8_clear, c8_key, c8_load
 from smallgames.machine import Machine
 from tests.calling import (
-    DIGITS, FIRST_MEMORY, GREATEST_SEED, LOOK_AT_ALL, MEMORY_SIZE, ask, clear, key, load, look)
+    DIGITS, FIRST_MEMORY, GREATEST_SEED, LOOK_AT_ALL, MEMORY_SIZE, AnswersTest, ask, clear, key, load, look)
 
 
 def first_state(chance):
@@ -36,48 +36,48 @@ def used_machine():
     return machine
 
 
-class ClearTest(unittest.TestCase):
+class ClearTest(AnswersTest):
     def test_answers_0_for_each_seed(self):
         for seed in (0, 1, 2147483648, GREATEST_SEED):
-            self.assertEqual(ask(clear(seed)), [[0]])
+            self.assert_same(ask(clear(seed)), [[0]])
 
     def test_digits_byte_by_byte(self):
-        self.assertEqual(len(DIGITS), 16)
+        self.assert_same(len(DIGITS), 16)
         for digit, shape in enumerate(DIGITS):
             for offset, value in enumerate(shape):
                 with self.subTest(digit=digit, offset=offset):
-                    self.assertEqual(ask(clear(), look(5 * digit + offset, 1)), [[0], [0, value]])
+                    self.assert_same(ask(clear(), look(5 * digit + offset, 1)), [[0], [0, value]])
 
     def test_memory_is_0_behind_the_digits(self):
-        self.assertEqual(ask(clear(), look(80, 4016)), [[0], [0] * 4017])
+        self.assert_same(ask(clear(), look(80, 4016)), [[0], [0] * 4017])
 
     def test_memory_is_the_same_for_each_seed(self):
         for seed in (0, 1, GREATEST_SEED):
-            self.assertEqual(ask(clear(seed), LOOK_AT_ALL), [[0], [0] + FIRST_MEMORY])
+            self.assert_same(ask(clear(seed), LOOK_AT_ALL), [[0], [0] + FIRST_MEMORY])
 
     def test_all_that_a_cleared_machine_has(self):
         for seed, chance in ((0, 1), (1, 1), (2, 2), (GREATEST_SEED, GREATEST_SEED)):
             machine = Machine()
-            self.assertEqual(c8_clear(machine, seed), [0])
-            self.assertEqual(vars(machine), first_state(chance))
+            self.assert_same(c8_clear(machine, seed), [0])
+            self.assert_same(vars(machine), first_state(chance))
 
     def test_again_on_a_used_machine(self):
         for seed, chance in ((0, 1), (1, 1), (GREATEST_SEED, GREATEST_SEED)):
             machine = used_machine()
-            self.assertEqual(c8_clear(machine, seed), [0])
-            self.assertEqual(vars(machine), first_state(chance))
+            self.assert_same(c8_clear(machine, seed), [0])
+            self.assert_same(vars(machine), first_state(chance))
 
     def test_again_after_loads_and_keys(self):
         answered = ask(
             clear(5), load(0, [7] * 80), load(512, [1, 2, 3]), load(4095, [8]), key(0, 1), key(15, 1),
             clear(6), LOOK_AT_ALL)
-        self.assertEqual(answered, [[0]] * 7 + [[0] + FIRST_MEMORY])
+        self.assert_same(answered, [[0]] * 7 + [[0] + FIRST_MEMORY])
 
     def test_machines_share_nothing(self):
         used_machine()
         machine = Machine()
         c8_clear(machine, 3)
-        self.assertEqual(vars(machine), first_state(3))
+        self.assert_same(vars(machine), first_state(3))
 
 
 if __name__ == "__main__":

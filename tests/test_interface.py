@@ -4,7 +4,7 @@ import unittest
 
 from smallgames.games import answers
 from tests.calling import (
-    FIRST_MEMORY, GREATEST_SEED, LOOK_AT_ALL, MEMORY_SIZE, ask, clear, key, load, look, split, tick)
+    FIRST_MEMORY, GREATEST_SEED, LOOK_AT_ALL, MEMORY_SIZE, AnswersTest, ask, clear, key, load, look, split, tick)
 
 SOME_OF_EACH = (
     clear(1) + load(512, [1, 2, 3]) + look(511, 5) + key(3, 1) + tick() + load(4096, [5, 5])
@@ -23,27 +23,27 @@ class Untouchable(list):
     __setitem__ = __delitem__ = __iadd__ = __imul__ = refuse
 
 
-class InterfaceTest(unittest.TestCase):
+class InterfaceTest(AnswersTest):
     def test_one_call(self):
-        self.assertEqual(answers([1, 0]), [1, 0])
-        self.assertEqual(answers([1, GREATEST_SEED]), [1, 0])
+        self.assert_same(answers([1, 0]), [1, 0])
+        self.assert_same(answers([1, GREATEST_SEED]), [1, 0])
 
     def test_each_call_with_its_count_before_it(self):
-        self.assertEqual(answers([1, 9]), [1, 0])
-        self.assertEqual(answers([1, 9, 2, 700, 2, 8, 7]), [1, 0, 1, 0])
-        self.assertEqual(answers([1, 9, 2, 700, 0]), [1, 0, 1, 0])
-        self.assertEqual(answers([1, 9, 2, 4097, 0]), [1, 0, 1, -1])
-        self.assertEqual(answers([1, 9, 3, 0, 3]), [1, 0, 4, 0, 0xF0, 0x90, 0x90])
-        self.assertEqual(answers([1, 9, 3, 0, 0]), [1, 0, 1, 0])
-        self.assertEqual(answers([1, 9, 3, 0, -1]), [1, 0, 1, -1])
-        self.assertEqual(answers([1, 9, 4, 15, 1]), [1, 0, 1, 0])
-        self.assertEqual(answers([1, 9, 4, 15, 2]), [1, 0, 1, -1])
-        self.assertEqual(answers([1, 9, 5]), [1, 0, 1, 0])
-        self.assertEqual(answers([1, 9, 1, 8]), [1, 0, 1, 0])
-        self.assertEqual(answers([1, 9] + LOOK_AT_ALL), [1, 0, 4097, 0] + FIRST_MEMORY)
+        self.assert_same(answers([1, 9]), [1, 0])
+        self.assert_same(answers([1, 9, 2, 700, 2, 8, 7]), [1, 0, 1, 0])
+        self.assert_same(answers([1, 9, 2, 700, 0]), [1, 0, 1, 0])
+        self.assert_same(answers([1, 9, 2, 4097, 0]), [1, 0, 1, -1])
+        self.assert_same(answers([1, 9, 3, 0, 3]), [1, 0, 4, 0, 0xF0, 0x90, 0x90])
+        self.assert_same(answers([1, 9, 3, 0, 0]), [1, 0, 1, 0])
+        self.assert_same(answers([1, 9, 3, 0, -1]), [1, 0, 1, -1])
+        self.assert_same(answers([1, 9, 4, 15, 1]), [1, 0, 1, 0])
+        self.assert_same(answers([1, 9, 4, 15, 2]), [1, 0, 1, -1])
+        self.assert_same(answers([1, 9, 5]), [1, 0, 1, 0])
+        self.assert_same(answers([1, 9, 1, 8]), [1, 0, 1, 0])
+        self.assert_same(answers([1, 9] + LOOK_AT_ALL), [1, 0, 4097, 0] + FIRST_MEMORY)
 
     def test_one_behind_another(self):
-        self.assertEqual(answers(SOME_OF_EACH), THEIR_ANSWERS)
+        self.assert_same(answers(SOME_OF_EACH), THEIR_ANSWERS)
 
     def test_200_calls(self):
         calls = [clear(3)]
@@ -53,40 +53,40 @@ class InterfaceTest(unittest.TestCase):
             expected += [[0], [0] if number % 18 < 16 else [-1], [0] + list(range(number + 1))]
         calls.append(tick())
         expected.append([0])
-        self.assertEqual(len(calls), 200)
-        self.assertEqual(ask(*calls), expected)
+        self.assert_same(len(calls), 200)
+        self.assert_same(ask(*calls), expected)
 
     def test_200_calls_of_one_kind(self):
-        self.assertEqual(answers(clear(1) * 200), [1, 0] * 200)
-        self.assertEqual(answers(clear(1) + tick() * 199), [1, 0] * 200)
-        self.assertEqual(ask(clear(1), *[LOOK_AT_ALL] * 199), [[0]] + [[0] + FIRST_MEMORY] * 199)
+        self.assert_same(answers(clear(1) * 200), [1, 0] * 200)
+        self.assert_same(answers(clear(1) + tick() * 199), [1, 0] * 200)
+        self.assert_same(ask(clear(1), *[LOOK_AT_ALL] * 199), [[0]] + [[0] + FIRST_MEMORY] * 199)
 
     def test_a_list_near_the_greatest_length(self):
         loads = [load(0, [number] * MEMORY_SIZE) for number in range(7)]
         calls = clear() + sum(loads, []) + LOOK_AT_ALL
-        self.assertEqual(split(answers(calls)), [[0]] * 8 + [[0] + [6] * MEMORY_SIZE])
+        self.assert_same(split(answers(calls)), [[0]] * 8 + [[0] + [6] * MEMORY_SIZE])
 
     def test_what_is_handed_in_is_not_changed(self):
         calls = list(SOME_OF_EACH)
         answers(calls)
-        self.assertEqual(calls, SOME_OF_EACH)
-        self.assertEqual(answers(Untouchable(SOME_OF_EACH)), THEIR_ANSWERS)
+        self.assert_same(calls, SOME_OF_EACH)
+        self.assert_same(answers(Untouchable(SOME_OF_EACH)), THEIR_ANSWERS)
 
     def test_twice_the_same(self):
         calls = list(SOME_OF_EACH)
         first = answers(calls)
-        self.assertEqual(first, THEIR_ANSWERS)
+        self.assert_same(first, THEIR_ANSWERS)
         first.append(5)
-        self.assertEqual(answers(calls), THEIR_ANSWERS)
+        self.assert_same(answers(calls), THEIR_ANSWERS)
 
     def test_nothing_is_kept_from_one_time_to_the_next(self):
         ask(clear(), load(0, [255] * MEMORY_SIZE), key(2, 1))
-        self.assertEqual(ask(clear(), LOOK_AT_ALL), [[0], [0] + FIRST_MEMORY])
+        self.assert_same(ask(clear(), LOOK_AT_ALL), [[0], [0] + FIRST_MEMORY])
 
     def test_kinds(self):
         answered = answers(list(SOME_OF_EACH))
         self.assertIs(type(answered), list)
-        self.assertEqual({type(number) for number in answered}, {int})
+        self.assert_same({type(number) for number in answered}, {int})
 
 
 if __name__ == "__main__":
