@@ -1,11 +1,18 @@
 """The machine: what it has, and how it is at first."""
 
+from smallgames.stops import GOES_ON
+
 MEMORY_SIZE = 4096
+BYTE_COUNT = 256
+WORD_COUNT = 65536
 REGISTER_COUNT = 16
+VF = 15
 KEY_COUNT = 16
 ASIDE_COUNT = 8
+PLACE_COUNT = 16
 FIRST_PC = 512
 SMALL_HEIGHT = 32
+LARGE_HEIGHT = 64
 
 # The shapes of the digits 0 to F, five bytes each.
 DIGITS = (
@@ -50,3 +57,5 @@ class Machine:
         # A row of points is one number, its leftmost point the highest bit:
         # so a row is turned or scrolled in one step.
         self.rows = [0] * SMALL_HEIGHT
+        # No run has been made yet, so nothing has stopped one.
+        self.stopped_by = GOES_ON

@@ -39,7 +39,39 @@ def tick():
     return [5]
 
 
+def run(n):
+    return [6, n]
+
+
+def why():
+    return [7]
+
+
+def get(which):
+    return [8, which]
+
+
+def put(which, value):
+    return [9, which, value]
+
+
+def screen():
+    return [10]
+
+
 LOOK_AT_ALL = look(0, MEMORY_SIZE)
+FIRST_PC = 512
+VF = 15
+I = 16
+PC = 17
+WAIT = 18
+SOUND = 19
+PLACES = 20
+
+
+def program(words, at=FIRST_PC):
+    """A c8_load of instructions."""
+    return load(at, [part for word in words for part in divmod(word, 256)])
 
 
 def split(answered):
@@ -88,6 +120,5 @@ def first_difference(got, expected, where=""):
 
 
 def shortened(value):
-    if isinstance(value, list) and len(value) > 20:
-        return f"{len(value)} values, {value[:20]} and so on"
-    return repr(value)
+    text = repr(value)
+    return text if len(text) < 300 else f"{text[:300]} and so on"

@@ -2,38 +2,20 @@
 
 import unittest
 
-from smallgames.actions import c8_clear, c8_key, c8_load
-from smallgames.machine import Machine
 from tests.calling import (
-    DIGITS, FIRST_MEMORY, GREATEST_SEED, LOOK_AT_ALL, MEMORY_SIZE, AnswersTest, ask, clear, key, load, look)
+    DIGITS, FIRST_MEMORY, GREATEST_SEED, LOOK_AT_ALL, MEMORY_SIZE, AnswersTest, ask, clear, get, key, load, look,
+    program, put, run, screen, tick, why)
+from tests.drawing import lighted, spots
+from tests.observing import away, busy, first_state, observe, placed
+
+SEEDS = ((0, 1), (1, 1), (2, 2), (2147483648, 2147483648), (GREATEST_SEED, GREATEST_SEED))
 
 
-def first_state(chance):
-    return {
-        "memory": FIRST_MEMORY, "registers": [0] * 16, "aside": [0] * 8, "i": 0, "pc": 512,
-        "places": [], "wait": 0, "sound": 0, "pressed": [0] * 16, "chance": chance,
-        "large": 0, "rows": [0] * 32,
-    }
-
-
-def used_machine():
-    machine = Machine()
-    c8_clear(machine, 77)
-    c8_load(machine, 0, [9] * MEMORY_SIZE)
-    for k in range(16):
-        c8_key(machine, k, 1)
-    machine.registers[3] = 4
-    machine.registers[15] = 255
-    machine.aside[7] = 6
-    machine.i = 65535
-    machine.pc = 4094
-    machine.places.append(600)
-    machine.wait = 255
-    machine.sound = 254
-    machine.chance = 12345
-    machine.large = 1
-    machine.rows = [1] * 64
-    return machine
+def used(stopping_word):
+    """Calls behind which nothing of a machine is as it was at first."""
+    calls = busy() + lighted(True, spots(True)) + away(14) + [key(k, 1) for k in range(16)]
+    calls += placed(stopping_word, 0x650) + [run(1)]
+    return calls + [load(0, [9] * MEMORY_SIZE), put(17, 4094)]
 
 
 class ClearTest(AnswersTest):
@@ -56,28 +38,45 @@ class ClearTest(AnswersTest):
             self.assert_same(ask(clear(seed), LOOK_AT_ALL), [[0], [0] + FIRST_MEMORY])
 
     def test_all_that_a_cleared_machine_has(self):
-        for seed, chance in ((0, 1), (1, 1), (2, 2), (GREATEST_SEED, GREATEST_SEED)):
-            machine = Machine()
-            self.assert_same(c8_clear(machine, seed), [0])
-            self.assert_same(vars(machine), first_state(chance))
+        for seed, chance in SEEDS:
+            self.assert_same(observe(clear(seed))[1], first_state(FIRST_MEMORY, chance))
+
+    def test_the_used_machine_is_unlike_a_new_one(self):
+        state = observe(*used(0x00FD))[1]
+        first = first_state(FIRST_MEMORY, 1)
+        self.assert_same([name for name in first if state[name] == first[name]], [])
+        self.assert_same((state["count"], state["why"], state["large"]), (16, 4, 1))
 
     def test_again_on_a_used_machine(self):
-        for seed, chance in ((0, 1), (1, 1), (GREATEST_SEED, GREATEST_SEED)):
-            machine = used_machine()
-            self.assert_same(c8_clear(machine, seed), [0])
-            self.assert_same(vars(machine), first_state(chance))
+        for word in (0x0000, 0x2000, 0x00FD):
+            for seed, chance in SEEDS:
+                answered, state = observe(*used(word), clear(seed))
+                self.assert_same(answered[-1], [0])
+                self.assert_same(state, first_state(FIRST_MEMORY, chance))
 
-    def test_again_after_loads_and_keys(self):
-        answered = ask(
-            clear(5), load(0, [7] * 80), load(512, [1, 2, 3]), load(4095, [8]), key(0, 1), key(15, 1),
-            clear(6), LOOK_AT_ALL)
-        self.assert_same(answered, [[0]] * 7 + [[0] + FIRST_MEMORY])
+    def test_again_after_each_call_by_itself(self):
+        for call in (
+                load(0, [7] * 80), load(4095, [8]), key(0, 1), key(15, 1), tick(), run(1), put(0, 5), put(15, 6),
+                put(16, 7), put(17, 8), put(18, 9), put(19, 10), run(-1), put(20, 1), look(0, 9), screen(), why()):
+            self.assert_same(observe(clear(5), call, clear(6))[1], first_state(FIRST_MEMORY, 6))
+
+    def test_again_after_instructions(self):
+        for words in ([0x00FF], [0xA000, 0xD015], [0x00FF, 0xD010], [0x2300], [0xC1FF], [0x6105, 0xF775], [0x0000]):
+            calls = [program(words), run(len(words)), clear(0)]
+            self.assert_same(observe(clear(5), *calls)[1], first_state(FIRST_MEMORY, 1))
+
+    def test_again_and_again(self):
+        self.assert_same(ask(*used(0x00FD), clear(3), clear(4), get(17))[-3:], [[0], [0], [512]])
+        self.assert_same(observe(clear(3), clear(4))[1], first_state(FIRST_MEMORY, 4))
+
+    def test_the_same_run_behind_it(self):
+        calls = [program([0xC1FF, 0xF11E, 0xD125, 0x7201, 0x1200]), run(77)]
+        fresh = observe(clear(5), *calls)[1]
+        self.assert_same(observe(*used(0x00FD), clear(5), *calls)[1], fresh)
 
     def test_machines_share_nothing(self):
-        used_machine()
-        machine = Machine()
-        c8_clear(machine, 3)
-        self.assert_same(vars(machine), first_state(3))
+        ask(*used(0x00FD))
+        self.assert_same(observe(clear(3))[1], first_state(FIRST_MEMORY, 3))
 
 
 if __name__ == "__main__":

@@ -2,24 +2,9 @@
 
 import unittest
 
-from smallgames.actions import c8_clear, c8_key, c8_tick
-from smallgames.machine import Machine
-from tests.calling import FIRST_MEMORY, GREATEST, LEAST, LOOK_AT_ALL, AnswersTest, ask, clear, key, tick
-
-
-def cleared():
-    machine = Machine()
-    c8_clear(machine, 1)
-    return machine
-
-
-def state(machine):
-    return {name: list(value) if isinstance(value, list) else value for name, value in vars(machine).items()}
-
-
-def keys_down(machine):
-    return [k for k, down in enumerate(machine.pressed) if down == 1]
-
+from smallgames.games import answers
+from tests.calling import GREATEST, LEAST, SOUND, WAIT, AnswersTest, ask, clear, get, key, program, put, run, tick
+from tests.observing import BUSY_KEYS, busy, observe
 
 WRONG_KEYS = (
     (-1, 0), (-1, 1), (16, 0), (16, 1), (LEAST, 1), (GREATEST, 1),
@@ -27,94 +12,90 @@ WRONG_KEYS = (
     (-1, -1), (-1, 2), (16, -1), (16, 2), (LEAST, LEAST), (GREATEST, GREATEST), (LEAST, GREATEST))
 
 
+def keys_down(*calls):
+    return [k for k, down in enumerate(observe(clear(), *calls)[1]["keys"]) if down == 1]
+
+
 class KeyTest(AnswersTest):
     def test_answers_0(self):
         for k in range(16):
             self.assert_same(ask(clear(), key(k, 1), key(k, 0)), [[0], [0], [0]])
 
-    def test_wrong_ones_answer_below_0(self):
-        for k, down in WRONG_KEYS:
-            with self.subTest(k=k, down=down):
-                answered = ask(clear(), key(k, down), tick(), LOOK_AT_ALL)
-                self.assert_same(answered, [[0], [-1], [0], [0] + FIRST_MEMORY])
-
     def test_wrong_ones_leave_all_as_it_was(self):
+        before = observe(*busy())[1]
         for k, down in WRONG_KEYS:
             with self.subTest(k=k, down=down):
-                machine = cleared()
-                c8_key(machine, 3, 1)
-                c8_key(machine, 15, 1)
-                before = state(machine)
-                self.assert_same(c8_key(machine, k, down), [-1])
-                self.assert_same(state(machine), before)
+                answered, after = observe(*busy(), key(k, down))
+                self.assert_same(answered[-1], [-1])
+                self.assert_same(after, before)
 
     def test_each_key_by_itself(self):
         for k in range(16):
-            machine = cleared()
-            c8_key(machine, k, 1)
-            self.assert_same(keys_down(machine), [k])
-            c8_key(machine, k, 0)
-            self.assert_same(keys_down(machine), [])
+            self.assert_same(keys_down(key(k, 1)), [k])
+            self.assert_same(keys_down(key(k, 1), key(k, 0)), [])
 
     def test_several_keys(self):
-        machine = cleared()
-        for k in (0, 7, 15):
-            c8_key(machine, k, 1)
-        self.assert_same(keys_down(machine), [0, 7, 15])
-        c8_key(machine, 7, 0)
-        self.assert_same(keys_down(machine), [0, 15])
+        self.assert_same(keys_down(key(0, 1), key(7, 1), key(15, 1)), [0, 7, 15])
+        self.assert_same(keys_down(key(0, 1), key(7, 1), key(15, 1), key(7, 0)), [0, 15])
+        self.assert_same(keys_down(*[key(k, 1) for k in range(16)]), list(range(16)))
 
     def test_pressed_twice_and_let_go_twice(self):
-        machine = cleared()
+        calls = []
         for down, expected in ((1, [9]), (1, [9]), (0, []), (0, []), (1, [9])):
-            self.assert_same(c8_key(machine, 9, down), [0])
-            self.assert_same(keys_down(machine), expected)
-        answered = ask(clear(), key(9, 1), key(9, 1), key(9, 0), key(9, 0))
-        self.assert_same(answered, [[0]] * 5)
+            calls.append(key(9, down))
+            self.assert_same(keys_down(*calls), expected)
+        self.assert_same(ask(clear(), *calls), [[0]] * 6)
 
     def test_changes_its_key_alone(self):
-        machine = cleared()
-        expected = state(machine)
-        expected["pressed"][4] = 1
-        c8_key(machine, 4, 1)
-        self.assert_same(state(machine), expected)
+        before = observe(*busy())[1]
+        for k in range(16):
+            expected = dict(before, keys=[int(other in BUSY_KEYS or other == k) for other in range(16)])
+            self.assert_same(observe(*busy(), key(k, 1))[1], expected)
+            expected["keys"][k] = 0
+            self.assert_same(observe(*busy(), key(k, 0))[1], expected)
 
 
 class TickTest(AnswersTest):
     def test_while_both_timers_are_0(self):
         self.assert_same(ask(clear(), tick(), tick(), tick()), [[0]] * 4)
-        machine = cleared()
-        before = state(machine)
-        self.assert_same(c8_tick(machine), [0])
-        self.assert_same(state(machine), before)
+        self.assert_same(observe(clear(), tick())[1], observe(clear())[1])
 
     def test_each_timer_one_less(self):
+        for wait in (0, 1, 2, 128, 254, 255):
+            for sound in (0, 1, 2, 128, 254, 255):
+                answered = ask(clear(), put(WAIT, wait), put(SOUND, sound), tick(), get(WAIT), get(SOUND))
+                expected = [[int(sound != 0)], [max(wait - 1, 0)], [max(sound - 1, 0)]]
+                self.assert_same((wait, sound, answered[3:]), (wait, sound, expected))
+
+    def test_written_out(self):
         for wait, sound, expected in (
-                (1, 0, (0, 0, 0)), (255, 0, (254, 0, 0)), (0, 1, (0, 0, 1)), (0, 255, (0, 254, 1)),
-                (1, 1, (0, 0, 1)), (2, 9, (1, 8, 1)), (9, 2, (8, 1, 1))):
-            with self.subTest(wait=wait, sound=sound):
-                machine = cleared()
-                machine.wait = wait
-                machine.sound = sound
-                answered = c8_tick(machine)
-                self.assert_same((machine.wait, machine.sound, answered[0]), expected)
-                self.assert_same(len(answered), 1)
-                self.assertIs(type(answered[0]), int)
+                (0, 0, [[0], [0], [0]]), (1, 0, [[0], [0], [0]]), (255, 0, [[0], [254], [0]]),
+                (0, 1, [[1], [0], [0]]), (0, 255, [[1], [0], [254]]), (1, 255, [[1], [0], [254]]),
+                (255, 1, [[1], [254], [0]])):
+            answered = ask(clear(), put(WAIT, wait), put(SOUND, sound), tick(), get(WAIT), get(SOUND))
+            self.assert_same(answered[3:], expected)
+
+    def test_timers_that_instructions_have_set(self):
+        calls = [program([0x6103, 0xF115, 0x6202, 0xF218]), run(4)] + [tick(), get(WAIT), get(SOUND)] * 4
+        self.assert_same(ask(clear(), *calls)[3:], [
+            [1], [2], [1], [1], [1], [0], [0], [0], [0], [0], [0], [0]])
 
     def test_down_to_0_and_no_further(self):
-        machine = cleared()
-        machine.wait = 3
-        machine.sound = 2
-        self.assert_same([c8_tick(machine)[0] for tick_number in range(5)], [1, 1, 0, 0, 0])
-        self.assert_same((machine.wait, machine.sound), (0, 0))
+        answered = ask(clear(), put(WAIT, 3), put(SOUND, 2), *[tick()] * 5, get(WAIT), get(SOUND))
+        self.assert_same(answered[3:], [[1], [1], [0], [0], [0], [0], [0]])
+
+    def test_lasts_as_many_ticks_as_its_value(self):
+        calls = [put(SOUND, 255)] + [tick()] * 198
+        self.assert_same(ask(clear(), *calls)[2:], [[1]] * 198)
+        self.assert_same(ask(clear(), put(SOUND, 57), *[tick()] * 60)[2:], [[1]] * 57 + [[0]] * 3)
 
     def test_changes_the_timers_alone(self):
-        machine = cleared()
-        machine.wait = 5
-        machine.sound = 6
-        expected = dict(state(machine), wait=4, sound=5)
-        c8_tick(machine)
-        self.assert_same(state(machine), expected)
+        before = observe(*busy())[1]
+        self.assert_same(observe(*busy(), tick())[1], dict(before, wait=110, sound=221))
+
+    def test_kinds(self):
+        for number in answers(clear() + put(SOUND, 1) + tick() + tick()):
+            self.assertIs(type(number), int)
 
 
 if __name__ == "__main__":

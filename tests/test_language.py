@@ -99,6 +99,7 @@ class LanguageTest(unittest.TestCase):
                 self.assertEqual(node.orelse, [], where)
             if isinstance(node, ast.Assign):
                 self.assertEqual(len(node.targets), 1, where)
+                self.assertNotIsInstance(node.targets[0], ast.Tuple, where)
             if isinstance(node, ast.Constant):
                 self.assertIsInstance(node.value, (int, str, bool, type(None)), where)
             if isinstance(node, ast.Compare) and isinstance(node.ops[0], (ast.Is, ast.IsNot)):
@@ -135,6 +136,25 @@ class LanguageTest(unittest.TestCase):
                     self.assertFalse(hasattr(builtins, bound), f"{name}: {bound}")
             if isinstance(node, ast.Name) and hasattr(builtins, node.id):
                 self.assertIn(node.id, OWN_NAMES, name)
+
+    def test_no_local_is_called_like_an_import_or_a_class(self):
+        for name, tree in trees():
+            taken = [alias.name for node in tree.body if isinstance(node, ast.ImportFrom) for alias in node.names]
+            taken += [node.name for node in tree.body if isinstance(node, (ast.FunctionDef, ast.ClassDef))]
+            for node in ast.walk(tree):
+                if isinstance(node, (ast.arg, ast.Name)):
+                    for bound in bound_names(node):
+                        self.assertNotIn(bound, taken, name)
+
+    def test_no_two_files_draw_from_one_another(self):
+        drawn = {
+            name[:-3]: [node.module.split(".")[-1] for node in tree.body if isinstance(node, ast.ImportFrom)]
+            for name, tree in trees()}
+        while drawn:
+            free = [name for name in drawn if not any(other in drawn for other in drawn[name])]
+            self.assertTrue(free, f"in a ring: {sorted(drawn)}")
+            for name in free:
+                drawn.pop(name)
 
     def test_methods_and_values(self):
         for name, node in nodes():
